@@ -1,0 +1,1 @@
+"""Orders given at once: what each comes to."""
