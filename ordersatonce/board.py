@@ -2,10 +2,12 @@
 
 from ordersatonce.laying import lay
 from ordersatonce.limits import in_range
-from ordersatonce.orders import give_order
+from ordersatonce.orders import tell_unit
+from ordersatonce.questions import ask
 from ordersatonce.table import Table
 
 LAST_LAYING = 5
+LAST_TELLING = 11
 
 
 def answer(table, place, numbers):
@@ -14,7 +16,9 @@ def answer(table, place, numbers):
         return [-1]
     if place <= LAST_LAYING:
         return lay(table, place, numbers)
-    return give_order(table, place, numbers)
+    if place <= LAST_TELLING:
+        return tell_unit(table, place, numbers)
+    return ask(table, place, numbers)
 
 
 def answers(calls):

@@ -1,9 +1,7 @@
 """The calls 0 to 5: the board is laid, units are set and taken away."""
 
-from ordersatonce.table import Unit
-
-LAND = 0
-SEA = 1
+from ordersatonce.links import both_ways
+from ordersatonce.table import LAND, SEA, Unit
 
 MOST_PROVINCES = 40
 MOST_LAND_LINKS = 300
@@ -35,11 +33,6 @@ def add_link(links, link, most):
 
 def can_join(table, p, q, barred):
     return p != q and table.kinds[p] != barred and table.kinds[q] != barred
-
-
-def both_ways(one, other):
-    """A link's one name, whichever end is told first."""
-    return (min(one, other), max(one, other))
 
 
 def join_land(table, numbers):

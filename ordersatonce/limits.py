@@ -1,5 +1,6 @@
-"""The refusal that all calls share: a number outside the range told for it."""
+"""The refusal that all calls share: a number outside the range told for it, or too many provinces behind."""
 
+# Of the calls that have provinces behind, the numbers ahead of these.
 NUMBERS = {
     0: (),
     1: ("kind",),
@@ -12,9 +13,22 @@ NUMBERS = {
     8: ("province", "province"),
     9: ("province", "province", "province"),
     10: ("province", "province", "province"),
+    11: ("province", "way"),
+    12: ("province",),
+    13: ("province",),
+    14: (),
+    15: (),
+    16: (),
+    17: (),
+    18: (),
+    19: (),
+    20: (),
+    21: (),
 }
 
-GREATEST = {"kind": 2, "shore": 3, "power": 6, "fleet": 1, "water": 1}
+GREATEST = {"kind": 2, "shore": 3, "power": 6, "fleet": 1, "water": 1, "way": 1}
+
+MOST_BEHIND = 24
 
 
 def greatest(table, name):
@@ -24,7 +38,12 @@ def greatest(table, name):
 
 
 def in_range(table, place, numbers):
-    for name, number in zip(NUMBERS[place], numbers):
+    names = NUMBERS[place]
+    # A call has just its numbers, so what is more than these are the provinces behind.
+    behind = len(numbers) - len(names)
+    if behind > MOST_BEHIND:
+        return False
+    for name, number in zip(names + ("province",) * behind, numbers):
         if number < 0 or number > greatest(table, name):
             return False
     return True

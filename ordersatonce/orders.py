@@ -1,7 +1,8 @@
-"""The calls 6 to 10: a unit is given its order."""
+"""The calls 6 to 11: a unit is given its order, and its province a way or none."""
 
 FIRST_ORDER = 6
 ORDER_LENGTH = 4
+WAY = 11
 
 
 def as_order(place, numbers):
@@ -10,10 +11,13 @@ def as_order(place, numbers):
     return tuple(row + [0] * (ORDER_LENGTH - len(row)))
 
 
-def give_order(table, place, numbers):
+def tell_unit(table, place, numbers):
     p = numbers[0]
     if p not in table.units:
         return [-5]
     unit = table.units[p]
-    unit.order = as_order(place, numbers)
+    if place == WAY:
+        unit.way = numbers[1]
+    else:
+        unit.order = as_order(place, numbers)
     return [0]

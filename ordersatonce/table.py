@@ -1,5 +1,13 @@
 """The table that one line of calls is played on."""
 
+LAND = 0
+SEA = 1
+COAST = 2
+
+MOVE = 1
+STAY = 2
+AID = 3
+CARRY = 4
 HOLD = (0, 0, 0, 0)
 
 

@@ -5,6 +5,8 @@ from ordersatonce.board import answer, answers
 PLACES = {
     "clear": 0, "province": 1, "land": 2, "sea": 3, "unit": 4, "gone": 5,
     "hold": 6, "move": 7, "stay": 8, "aid": 9, "carry": 10,
+    "way": 11, "order": 12, "strengths": 13, "cuts": 14, "agrees": 15, "most": 16, "least": 17, "rings": 18,
+    "behind": 19, "ways": 20, "counts": 21,
 }
 BIG = 1000000000000000000
 INLAND, WATER, COAST = 0, 1, 2
@@ -63,3 +65,30 @@ def provinces(*kinds):
 
 def pairs(count):
     return [(p, q) for q in range(count) for p in range(q)]
+
+
+def inland(count):
+    """Provinces of land, each joined with each other."""
+    return [*provinces(*[INLAND] * count), *[("land", p, q) for p, q in pairs(count)]]
+
+
+def coasts(count):
+    """Coasts, each joined with each other by land, so that an army's move says by itself whether it is by water."""
+    return [*provinces(*[COAST] * count), *[("land", p, q) for p, q in pairs(count)]]
+
+
+def army(power, p):
+    return ("unit", power, ARMY, p, 0)
+
+
+def armies(*powers):
+    """Armies of these powers in the provinces from 0 on; None leaves a province empty."""
+    return [army(power, p) for p, power in enumerate(powers) if power is not None]
+
+
+def march(p, q):
+    return ("move", p, q, 0, 0)
+
+
+def sail(p, q):
+    return ("move", p, q, 0, 1)

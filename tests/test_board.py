@@ -19,10 +19,16 @@ class Untouchable(list):
 LINE = [
     *provinces(0, 1, 2, 2), ("land", 2, 3), ("land", 3, 2), ("sea", 1, 0, 2, 3), ("unit", 6, 1, 1, 2),
     ("move", 1, 2, 3, 0), ("gone", 0), ("gone", 1), ("clear",), ("gone", 1), ("province", 2),
+    ("province", 2), ("unit", 4, 0, 1, 0), ("unit", 5, 0, 0, 0), ("move", 1, 0, 0, 1), ("move", 0, 1, 3, 1),
+    ("way", 1, 1), ("order", 1), ("way", 0, 1), ("strengths", 0, 1), ("cuts",), ("cuts", *[0] * 25), ("agrees", 0, 1),
+    ("agrees", 1), ("most",), ("least",), ("rings",), ("behind", 1), ("ways", 1), ("counts",), ("strengths", 2),
 ]
 TOLD = [
     2, 0, 0, 2, 0, 1, 2, 0, 2, 2, 0, 3, 1, 0, 1, -4, 1, 0, 1, 0,
     1, 0, 1, -5, 1, 0, 1, 0, 1, -1, 2, 0, 0,
+    2, 0, 1, 1, 0, 1, 0, 1, 0, 1, 0,
+    1, 0, 10, 0, 4, 0, 0, 1, 0, 0, 1, 0, 1, 1, 0, 7, 0, 1, 0, 0, 1, 1, 1, 2, 0, 0, 1, -1, 2, 0, 1,
+    2, 0, 0, 4, 0, 2, 0, 1, 2, 0, 0, 5, 0, 1, 2, 0, 1, 6, 0, 2, 1, 0, 0, -1, 2, 0, 0, 6, 0, 2, 0, 0, 2, 2, 1, -1,
 ]
 
 
@@ -42,12 +48,23 @@ class Layout(unittest.TestCase):
     def test_any_call_may_come_first(self):
         self.assertEqual(answers([0, 0, 0]), [1, 0])
         self.assertEqual(answers([1, 1, 2, 0]), [2, 0, 0])
-        for place, count in ((2, 2), (3, 4), (4, 4), (5, 1), (6, 1), (7, 4), (8, 2), (9, 3), (10, 3)):
+        for place, count in ((2, 2), (3, 4), (4, 4), (5, 1), (6, 1), (7, 4), (8, 2), (9, 3), (10, 3), (11, 2), (12, 1), (13, 1)):
             self.assertEqual(answers([place, count] + [0] * count + [0]), [1, -1], place)
+        for place, told in ((14, [0]), (15, [1]), (16, [0]), (17, [0]), (18, [0]), (19, [0]), (20, [0])):
+            self.assertEqual(answers([place, 0, 0]), [2, 0, *told], place)
+        self.assertEqual(answers([21, 0, 0]), [6, 0, 0, 0, 0, 0, 0])
 
     def test_a_line_of_400_calls(self):
         told = ask(("province", COAST), ("unit", 0, 0, 0, 0), *[("hold", 0)] * 397, ("gone", 0))
         self.assertEqual(told, [[0, 0]] + [[0]] * 399)
+
+    def test_provinces_behind_are_numbers_like_the_others(self):
+        calls = [1, 1, 0, 0, 13, 4, 0, 0, 0, 0, 0, 14, 3, 0, 0, 0, 0, 19, 0, 0, 20, 2, 0, 21, 0, 21, 0, 0]
+        self.assertEqual(answers(calls), [2, 0, 0, 1, -5, 2, 0, 0, 2, 0, 0, 1, -1, 6, 0, 1, 0, 0, 0, 0])
+
+    def test_99_provinces_behind(self):
+        calls = [1, 1, 0, 0, 14, 99] + [0] * 99 + [0, 13, 99] + [0] * 99 + [0, 21, 0, 0]
+        self.assertEqual(answers(calls), [2, 0, 0, 1, -1, 1, -1, 6, 0, 1, 0, 0, 0, 0])
 
     def test_numbers_of_a_call_are_not_taken_for_calls(self):
         self.assertEqual(answers([1, 1, 1000000000000000000, 0, 2, 2, 0, 0, 0, 0, 0, 0]), [1, -1, 1, -1, 1, 0])

@@ -48,6 +48,38 @@ def bound_names(tree):
             yield node.id if isinstance(node, ast.Name) else node.attr, node.lineno
 
 
+def imported(tree):
+    return [alias.name for node in tree.body if isinstance(node, ast.ImportFrom) for alias in node.names]
+
+
+def top_names(tree, imports=True):
+    """The names that are bound at a file's top."""
+    found = imported(tree) if imports else []
+    for node in tree.body:
+        if isinstance(node, (ast.FunctionDef, ast.ClassDef)):
+            found.append(node.name)
+        elif isinstance(node, ast.Assign):
+            found.append(node.targets[0].id)
+    return found
+
+
+def plain(node, functions, within=False):
+    """A plain value: a whole number, a text, or a list, tuple or dict of these and of functions defined above."""
+    if isinstance(node, ast.Constant):
+        return True
+    if isinstance(node, ast.UnaryOp):
+        return isinstance(node.op, ast.USub) and isinstance(node.operand, ast.Constant)
+    if isinstance(node, ast.Name):
+        return within and node.id in functions
+    if isinstance(node, ast.Tuple):
+        return all(plain(part, functions, True) for part in node.elts)
+    if within:
+        return False
+    if isinstance(node, ast.List):
+        return all(plain(part, functions, True) for part in node.elts)
+    return isinstance(node, ast.Dict) and all(plain(part, functions, True) for part in [*node.keys, *node.values])
+
+
 class Files(unittest.TestCase):
     def test_only_plain_files(self):
         for path in PACKAGE.iterdir():
@@ -107,6 +139,89 @@ class Code(unittest.TestCase):
             for node in ast.walk(tree):
                 if isinstance(node, ast.Call) and isinstance(node.func, ast.Attribute):
                     self.assertIn(node.func.attr, METHODS + own, f"{name}:{node.lineno}")
+
+    def test_the_top_of_a_file(self):
+        for name, tree in trees():
+            self.assertIsNotNone(ast.get_docstring(tree), name)
+            functions = []
+            for node in tree.body[1:]:
+                with self.subTest(file=name, line=node.lineno):
+                    self.assertIsInstance(node, (ast.ImportFrom, ast.FunctionDef, ast.ClassDef, ast.Assign))
+                    if isinstance(node, ast.FunctionDef):
+                        functions.append(node.name)
+                    if isinstance(node, ast.Assign):
+                        self.assertTrue(plain(node.value, functions))
+
+    def test_each_name_once_at_the_top(self):
+        for name, tree in trees():
+            found = top_names(tree)
+            self.assertEqual(sorted(found), sorted(set(found)), name)
+
+    def test_nothing_at_the_top_is_changed(self):
+        for name, tree in trees():
+            tops = [node.targets[0].id for node in tree.body if isinstance(node, ast.Assign)]
+            for node in ast.walk(tree):
+                if isinstance(node, ast.Call) and isinstance(node.func, ast.Attribute):
+                    if isinstance(node.func.value, ast.Name) and node.func.value.id in tops:
+                        self.assertIn(node.func.attr, ("get", "items", "keys", "values"), f"{name}:{node.lineno}")
+                if isinstance(node, ast.Subscript) and isinstance(node.ctx, ast.Store):
+                    self.assertFalse(isinstance(node.value, ast.Name) and node.value.id in tops, f"{name}:{node.lineno}")
+
+    def test_no_local_is_called_like_a_class_or_an_import(self):
+        for name, tree in trees():
+            taken = imported(tree) + [node.name for node in tree.body if isinstance(node, ast.ClassDef)]
+            for node in ast.walk(tree):
+                if isinstance(node, ast.arg):
+                    self.assertNotIn(node.arg, taken, f"{name}:{node.lineno}")
+                if isinstance(node, ast.Name) and isinstance(node.ctx, ast.Store):
+                    self.assertNotIn(node.id, taken, f"{name}:{node.lineno}")
+
+    def test_an_import_is_from_the_file_that_defines_the_name(self):
+        tops = {name[:-3]: top_names(tree, imports=False) for name, tree in trees()}
+        for name, tree in trees():
+            for node in tree.body:
+                if isinstance(node, ast.ImportFrom):
+                    for alias in node.names:
+                        self.assertIsNone(alias.asname, name)
+                        self.assertIn(alias.name, tops[node.module.split(".")[1]], name)
+
+    def test_what_is_imported_is_used(self):
+        for name, tree in trees():
+            used = [node.id for node in ast.walk(tree) if isinstance(node, ast.Name)]
+            for taken in imported(tree):
+                self.assertIn(taken, used, name)
+
+    def test_no_two_files_draw_from_one_another(self):
+        drawn = {}
+        for name, tree in trees():
+            modules = [node.module for node in tree.body if isinstance(node, ast.ImportFrom)]
+            drawn[name[:-3]] = {module.split(".")[1] for module in modules}
+        self.assertEqual(drawn["__init__"], set())
+        while drawn:
+            free = [name for name in drawn if not drawn[name] & set(drawn)]
+            self.assertTrue(free, sorted(drawn))
+            drawn = {name: drawn[name] for name in drawn if name not in free}
+
+    def test_no_name_is_a_method_and_a_value(self):
+        methods = set()
+        values = set()
+        for name, tree in trees():
+            for node in ast.walk(tree):
+                if isinstance(node, ast.ClassDef):
+                    methods |= {part.name for part in node.body if isinstance(part, ast.FunctionDef)}
+                if isinstance(node, ast.Attribute) and isinstance(node.ctx, ast.Store):
+                    values.add(node.attr)
+        self.assertEqual(methods & values, set())
+        for value in values:
+            self.assertFalse([kind for kind in (str, int, list, dict, set, bytes) if hasattr(kind, value)], value)
+
+    def test_is_stands_beside_none_true_and_false_alone(self):
+        for name, tree in trees():
+            for node in ast.walk(tree):
+                if isinstance(node, ast.Compare):
+                    for sign, right in zip(node.ops, node.comparators):
+                        if isinstance(sign, (ast.Is, ast.IsNot)):
+                            self.assertIsInstance(right, ast.Constant, f"{name}:{node.lineno}")
 
 
 if __name__ == "__main__":

@@ -225,7 +225,8 @@ class Gone(Refusals):
         table = Table()
         for call in [*provinces(COAST, COAST), ("unit", 0, ARMY, 0, 0), ("move", 0, 1, 0, 1)]:
             do(table, *call)
-        table.units[0].way = 1
+        self.assertEqual(do(table, "way", 0, 1), [0])
+        self.assertEqual(table.units[0].way, 1)
         self.assertEqual(do(table, "gone", 0), [0])
         self.assertEqual(holds(table)[3], [])
         do(table, "unit", 0, ARMY, 0, 0)

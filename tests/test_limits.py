@@ -17,7 +17,17 @@ CALLS = (
     ("stay", (0, 1), (5, 5)),
     ("aid", (0, 1, 2), (5, 5, 5)),
     ("carry", (0, 1, 2), (5, 5, 5)),
+    ("way", (0, 1), (5, 1)),
+    ("order", (0,), (5,)),
+    ("strengths", (0,), (5,)),
+    ("strengths", (0, 1, 2), (5, 5, 5)),
+    ("cuts", (0, 1), (5, 5)),
+    ("agrees", (0, 1), (5, 5)),
+    ("behind", (0, 1), (5, 5)),
+    ("ways", (0, 1), (5, 5)),
 )
+# The calls with provinces behind, and how many numbers stand ahead of these.
+WITH_BEHIND = (("strengths", 1), ("cuts", 0), ("agrees", 0), ("behind", 0), ("ways", 0))
 # Six provinces, so that their range is that of no other number.
 COASTS = provinces(*[COAST] * 6)
 
@@ -109,6 +119,70 @@ class LookedAtFirst(unittest.TestCase):
         self.assertEqual(last(*coasts, ("aid", 0, 1, 3)), [-1])
         self.assertEqual(last(*coasts, ("carry", 0, 3, 1)), [-1])
         self.assertEqual(last(*coasts, ("carry", 0, 1, 3)), [-1])
+        self.assertEqual(last(*coasts, ("way", 0, 2)), [-1])
+        self.assertEqual(last(*coasts, ("strengths", 0, 3)), [-1])
+        self.assertEqual(last(*coasts, ("strengths", 0, 1, 2, -1)), [-1])
+        self.assertEqual(last(*coasts, ("strengths", 0, *[0] * 25)), [-1])
+
+    def test_then_no_unit(self):
+        coasts = provinces(COAST, COAST, COAST)
+        for call in (("way", 0, 1), ("order", 0), ("strengths", 0), ("strengths", 0, 1, 2), ("strengths", 0, *[2] * 24)):
+            self.assertEqual(last(*coasts, call), [-5], call)
+
+
+class ProvincesBehind(unittest.TestCase):
+    def refused(self, name, *numbers):
+        table = board()
+        before = holds(table)
+        self.assertEqual(do(table, name, *numbers), [-1], (name, numbers))
+        self.assertEqual(holds(table), before)
+        self.assertEqual(last(*COASTS, ("unit", 1, 1, 0, 2), (name, *numbers)), [-1])
+
+    def done(self, name, *numbers):
+        table = board()
+        before = holds(table)
+        self.assertEqual(do(table, name, *numbers)[0], 0, (name, numbers))
+        self.assertEqual(holds(table), before)
+
+    def test_up_to_24(self):
+        for name, ahead in WITH_BEHIND:
+            for count in range(25):
+                self.done(name, *[0] * ahead, *[p % 6 for p in range(count)])
+
+    def test_from_25_on(self):
+        for name, ahead in WITH_BEHIND:
+            for count in range(25, 100 - ahead):
+                self.refused(name, *[0] * ahead, *[p % 6 for p in range(count)])
+                self.refused(name, *[0] * ahead, *[0] * count)
+
+    def test_25_of_which_some_are_the_same_are_25(self):
+        for name, ahead in WITH_BEHIND:
+            self.done(name, *[0] * ahead, *[1] * 24)
+            self.refused(name, *[0] * ahead, *[1] * 25)
+
+    def test_one_outside_wherever_it_stands(self):
+        for name, ahead in WITH_BEHIND:
+            for at in range(ahead + 24):
+                for outside in (-1, 6, BIG, -BIG):
+                    self.refused(name, *changed((0,) * (ahead + 24), at, outside))
+
+    def test_25_outside(self):
+        for name, ahead in WITH_BEHIND:
+            self.refused(name, *[6] * (ahead + 25))
+
+    def test_more_provinces_than_24(self):
+        table = Table()
+        for call in provinces(*[COAST] * 40):
+            do(table, *call)
+        do(table, "unit", 0, 0, 39, 0)
+        for name, ahead in WITH_BEHIND:
+            self.assertEqual(do(table, name, *[39] * ahead, *range(16, 40))[0], 0)
+            self.assertEqual(do(table, name, *[39] * ahead, *range(15, 40)), [-1])
+            self.assertEqual(do(table, name, *[39] * ahead, 40), [-1])
+
+    def test_none_behind_on_an_empty_table(self):
+        for name in ("cuts", "agrees", "behind", "ways"):
+            self.assertEqual(last((name,)), [0, int(name == "agrees")])
 
 
 if __name__ == "__main__":
